@@ -1,0 +1,1 @@
+"""Tiles that grow: growntiles.letters.answers answers the calls of one line."""
