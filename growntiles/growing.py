@@ -21,6 +21,14 @@ def letter_at(rule, a, n, x, y):
     return letter
 
 
+def square_at(rule, a, n, x, y, side):
+    """The letters of side columns from x on and side rows from y on, row by row."""
+    letters = []
+    for row in range(y, y + side):
+        letters.extend([letter_at(rule, a, n, column, row) for column in range(x, x + side)])
+    return letters
+
+
 def grown_counts(rule, counts):
     grown = [0] * rule.m
     for a in range(1, rule.m + 1):

@@ -1,4 +1,4 @@
-"""Which patches ever come to a letter."""
+"""Which patches ever come to a letter, and where first."""
 
 from growntiles.growing import grown_rows
 
@@ -56,3 +56,24 @@ def comes(rule, a, w, h, letters):
         if patch in patches_in(grown_two(rule, two), w, h):
             return True
     return False
+
+
+def lowest_place(rows, w, h, patch):
+    for y in range(len(rows) - h + 1):
+        for x in range(len(rows[0]) - w + 1):
+            if cut(rows, x, y, w, h) == patch:
+                return [x, y]
+    return None
+
+
+def first_place(rule, a, w, h, letters, most):
+    """After how many growings, 0 to most, the patch comes first, and its x and y; None if it doesn't."""
+    patch = tuple(letters)
+    rows = [[a]]
+    for growings in range(most + 1):
+        if growings > 0:
+            rows = grown_rows(rule, rows)
+        place = lowest_place(rows, w, h, patch)
+        if place is not None:
+            return [growings] + place
+    return None

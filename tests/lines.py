@@ -29,6 +29,26 @@ def ever(a, w, h, letters):
     return [5, a, w, h, len(letters)] + list(letters)
 
 
+def first(a, w, h, letters):
+    return [6, a, w, h, len(letters)] + list(letters)
+
+
+def mixed():
+    return [7]
+
+
+def share(a):
+    return [8, a]
+
+
+def classes():
+    return [9]
+
+
+def window(a, n, x, y):
+    return [10, a, n, x, y]
+
+
 def line_of(calls):
     line = []
     for call in calls:

@@ -29,6 +29,15 @@ LEFT_OUT = (
 )
 
 
+WALKED = ("range", "enumerate", "zip", "reversed")
+WALKERS = ("list", "tuple", "dict", "sorted", "sum", "any", "all", "enumerate", "zip", "min", "max")
+NOT_USED = set(
+    "register mro elements open input version_info with_traceback add_note attrgetter breakpoint builtins compile "
+    "copyright credits delattr dir eval exec exit gc getattr globals hasattr help id importlib license locals "
+    "methodcaller os quit setattr super vars sys set frozenset chr".split()
+)
+
+
 def files():
     return sorted(PACKAGE.glob("*.py"))
 
@@ -50,6 +59,24 @@ def bound_names(tree):
         elif isinstance(node, ast.Name) and isinstance(node.ctx, ast.Store):
             bound.add(node.id)
     return bound
+
+
+def imported(tree):
+    return [alias.asname or alias.name for node in tree.body if isinstance(node, ast.ImportFrom) for alias in node.names]
+
+
+def top_names(tree):
+    names = imported(tree)
+    for node in tree.body:
+        if isinstance(node, (ast.FunctionDef, ast.ClassDef)):
+            names.append(node.name)
+        elif isinstance(node, ast.Assign):
+            names.append(node.targets[0].id)
+    return names
+
+
+def called(node):
+    return node.func.id if isinstance(node, ast.Call) and isinstance(node.func, ast.Name) else None
 
 
 class TheFiles(unittest.TestCase):
@@ -120,3 +147,98 @@ class TheWords(unittest.TestCase):
             for node in ast.walk(tree):
                 if isinstance(node, ast.Call) and isinstance(node.func, ast.Attribute):
                     self.assertIn(node.func.attr, METHODS | own, (path, node.lineno))
+
+    def test_values_of_objects_are_not_called_like_methods_of_pythons_own(self):
+        kinds = (str, int, list, dict, set, bytes)
+        for path, tree in trees():
+            for node in ast.walk(tree):
+                if isinstance(node, ast.Attribute) and isinstance(node.ctx, ast.Store):
+                    self.assertFalse(any(hasattr(kind, node.attr) for kind in kinds), (path, node.attr))
+
+
+class TheTopOfAFile(unittest.TestCase):
+    def test_what_stands_there(self):
+        for path, tree in trees():
+            self.assertIsNotNone(ast.get_docstring(tree), path)
+            for node in tree.body[1:]:
+                self.assertIsInstance(node, (ast.ImportFrom, ast.FunctionDef, ast.ClassDef, ast.Assign), path)
+                if isinstance(node, ast.Assign):
+                    value = ast.literal_eval(node.value)
+                    self.assertIsInstance(value, (int, str, tuple), (path, node.lineno))
+
+    def test_each_name_once(self):
+        for path, tree in trees():
+            names = top_names(tree)
+            self.assertEqual(len(names), len(set(names)), path)
+
+    def test_no_local_is_called_like_what_stands_at_the_top(self):
+        for path, tree in trees():
+            for node in ast.walk(tree):
+                if isinstance(node, ast.FunctionDef):
+                    names = {part.arg for part in ast.walk(node) if isinstance(part, ast.arg)}
+                    names |= {part.id for part in ast.walk(node) if isinstance(part, ast.Name) and isinstance(part.ctx, ast.Store)}
+                    self.assertEqual(names & set(top_names(tree)), set(), (path, node.name))
+
+    def test_imports_draw_from_where_a_name_is_defined_and_never_in_a_round(self):
+        drawn = {}
+        found = {path.stem: tree for path, tree in trees()}
+        for stem, tree in found.items():
+            drawn[stem] = [node.module.split(".")[1] for node in tree.body if isinstance(node, ast.ImportFrom)]
+            for node in tree.body:
+                if isinstance(node, ast.ImportFrom):
+                    source = found[node.module.split(".")[1]]
+                    for alias in node.names:
+                        self.assertIn(alias.name, set(top_names(source)) - set(imported(source)), (stem, alias.name))
+        while drawn:
+            free = [stem for stem in drawn if not set(drawn[stem]) & set(drawn)]
+            self.assertNotEqual(free, [], drawn)
+            for stem in free:
+                drawn.pop(stem)
+
+    def test_functions_and_classes_are_plain(self):
+        for path, tree in trees():
+            for node in ast.walk(tree):
+                if isinstance(node, ast.FunctionDef):
+                    told = node.args
+                    self.assertEqual((node.decorator_list, told.kwonlyargs, told.vararg, told.kwarg), ([], [], None, None), path)
+                if isinstance(node, ast.ClassDef):
+                    self.assertEqual((node.decorator_list, node.keywords), ([], []), path)
+                    for part in node.body:
+                        self.assertIsInstance(part, ast.FunctionDef, path)
+
+
+class TheForms(unittest.TestCase):
+    def test_names_that_are_not_used(self):
+        for path, tree in trees():
+            for node in ast.walk(tree):
+                if isinstance(node, ast.Name):
+                    self.assertNotIn(node.id, NOT_USED, (path, node.lineno))
+                if isinstance(node, ast.Attribute):
+                    self.assertNotIn(node.attr, ("format", "format_map", "mro", "sort"), (path, node.lineno))
+
+    def test_is_stands_beside_none_true_and_false(self):
+        for path, tree in trees():
+            for node in ast.walk(tree):
+                if isinstance(node, ast.Compare) and isinstance(node.ops[0], (ast.Is, ast.IsNot)):
+                    self.assertIsInstance(node.comparators[0], ast.Constant, (path, node.lineno))
+                    self.assertIn(node.comparators[0].value, (None, True, False), (path, node.lineno))
+
+    def test_comprehensions_have_one_for(self):
+        for path, tree in trees():
+            for node in ast.walk(tree):
+                if isinstance(node, ast.ListComp):
+                    self.assertEqual(len(node.generators), 1, (path, node.lineno))
+                    self.assertLessEqual(len(node.generators[0].ifs), 1, (path, node.lineno))
+                self.assertNotIsInstance(node, (ast.Set, ast.Lambda, ast.Try), path)
+
+    def test_what_is_walked_is_walked_at_once(self):
+        for path, tree in trees():
+            at_once = set()
+            for node in ast.walk(tree):
+                if isinstance(node, (ast.For, ast.comprehension)):
+                    at_once.add(node.iter)
+                if called(node) in WALKERS:
+                    at_once.update(node.args[:1])
+            for node in ast.walk(tree):
+                if called(node) in WALKED:
+                    self.assertIn(node, at_once, (path, node.lineno))
